@@ -11,9 +11,7 @@ const order = 255
 func Mul(a, b byte) byte {
 	var sum byte
 	for i := range 8 {
-		if b>>i&1 == 1 {
-			sum ^= a
-		}
+		sum ^= a & whole(b>>i&1)
 		a = double(a)
 	}
 	return sum
@@ -21,10 +19,12 @@ func Mul(a, b byte) byte {
 
 // double: the product with 2, which is x.
 func double(a byte) byte {
-	if a < 128 {
-		return a << 1
-	}
-	return a<<1 ^ overflow
+	return a<<1 ^ overflow&whole(a>>7)
+}
+
+// whole: a bit in all eight places. (A branch upon it would be guessed wrong half of the time, and all codes stand on this.)
+func whole(bit byte) byte {
+	return -bit
 }
 
 // Div: the quotient; false: b is nought.
